@@ -1,0 +1,1 @@
+"""Lines cast by stalks: stalklines.bundle.answers(calls) is the way in."""
