@@ -33,9 +33,8 @@ BECOMES = 5
 NUMBERS_BEHIND = {0: 1, 1: 3, 2: 0, 4: 2, 5: 1}
 
 
+# Each method answers a call; it refuses before it stores anything, so that all is as it was then.
 class Bundle:
-    """A bundle of stalks; each method answers one call as a list."""
-
     def __init__(self):
         self.stalks = STALKS_AT_FIRST
 

@@ -71,9 +71,8 @@ def common_divisor(one, other):
     return one
 
 
+# In lowest terms from the start, since that is how every chance is told.
 class Fraction:
-    """An exact chance, always in lowest terms."""
-
     def __init__(self, above, below):
         divisor = common_divisor(above, below)
         self.above = above // divisor
