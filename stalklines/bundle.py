@@ -2,21 +2,32 @@
 
 from stalklines.casting import (
     CHANGES_OF_A_LINE,
-    LINES_OF_A_HEXAGRAM,
     MOVING,
     WHOLE,
-    line_at,
+    chance_of,
+    chance_of_becoming,
+    chance_of_moving,
+    likeliest_origin,
     line_odds,
     line_told,
-    product_of,
     set_of_lines,
     taken_by_cuts,
+)
+from stalklines.hexagrams import (
+    LAST_HEXAGRAM,
+    LINES_OF_A_HEXAGRAM,
+    core,
+    cores_from,
+    exchanged,
+    family_of,
+    first_wrong_place,
+    opposite,
+    upside_down,
 )
 
 STALKS_AT_FIRST = 49
 FEWEST_STALKS = 21
 MOST_STALKS = 97
-LAST_HEXAGRAM = 63
 LAST_SET_OF_LINES = 63
 
 OUT_OF_RANGE = -1
@@ -28,9 +39,15 @@ ODDS = 2
 CAST = 3
 CHANCE = 4
 BECOMES = 5
+MOVING_LINES = 6
+CAME = 7
+TURNED = 8
+FAMILY = 9
+CORES = 10
+PAIRS = 11
 
-# By the call's number, how many numbers stand behind it; a cast tells that itself.
-NUMBERS_BEHIND = {0: 1, 1: 3, 2: 0, 4: 2, 5: 1}
+# By the call's number, how many numbers stand behind it; a cast and an order tell that themselves.
+NUMBERS_BEHIND = {0: 1, 1: 3, 2: 0, 4: 2, 5: 1, 6: 1, 7: 1, 8: 1, 9: 1, 10: 1}
 
 
 # Each method answers a call; it refuses before it stores anything, so that all is as it was then.
@@ -72,24 +89,52 @@ class Bundle:
     def chance(self, hexagram, moving):
         if hexagram > LAST_HEXAGRAM or moving > LAST_SET_OF_LINES:
             return [OUT_OF_RANGE]
-        odds = line_odds(self.stalks)
-        fractions = [odds[line_at(hexagram, moving, place)] for place in range(LINES_OF_A_HEXAGRAM)]
-        return [0] + product_of(fractions).told()
+        return [0] + chance_of(line_odds(self.stalks), hexagram, moving).told()
 
     def becomes(self, hexagram):
         if hexagram > LAST_HEXAGRAM:
             return [OUT_OF_RANGE]
+        return [0] + chance_of_becoming(line_odds(self.stalks), hexagram).told()
+
+    def moving(self, count):
+        if count > LINES_OF_A_HEXAGRAM:
+            return [OUT_OF_RANGE]
+        return [0] + chance_of_moving(line_odds(self.stalks), count).told()
+
+    def came(self, hexagram):
+        if hexagram > LAST_HEXAGRAM:
+            return [OUT_OF_RANGE]
         odds = line_odds(self.stalks)
-        # A line comes to its kind by being so at rest, or by moving from the other kind.
-        whole = odds[7].plus(odds[6])
-        broken = odds[8].plus(odds[9])
-        fractions = [whole if (hexagram >> place) & 1 else broken for place in range(LINES_OF_A_HEXAGRAM)]
-        return [0] + product_of(fractions).told()
+        origin = likeliest_origin(odds, hexagram)
+        return [origin] + chance_of(odds, origin, origin ^ hexagram).told()
+
+    def turned(self, hexagram):
+        if hexagram > LAST_HEXAGRAM:
+            return [OUT_OF_RANGE]
+        return [upside_down(hexagram), opposite(hexagram), exchanged(hexagram), core(hexagram)]
+
+    def family(self, hexagram):
+        if hexagram > LAST_HEXAGRAM:
+            return [OUT_OF_RANGE]
+        members = family_of(hexagram)
+        return [len(members)] + members
+
+    def cores(self, hexagram):
+        if hexagram > LAST_HEXAGRAM:
+            return [OUT_OF_RANGE]
+        met = cores_from(hexagram)
+        return [len(met)] + met + [met.index(core(met[-1]))]
+
+    def pairs(self, order):
+        wrong = first_wrong_place(order)
+        if wrong < len(order):
+            return [0, wrong]
+        return [1]
 
 
 def end_of_call(calls, start):
     """The place behind the call that begins at start."""
-    if calls[start] == CAST:
+    if calls[start] in (CAST, PAIRS):
         return start + 2 + calls[start + 1]
     return start + 1 + NUMBERS_BEHIND[calls[start]]
 
@@ -106,7 +151,19 @@ def answer_of(bundle, call):
         return bundle.cast(call[2:])
     if call[0] == CHANCE:
         return bundle.chance(call[1], call[2])
-    return bundle.becomes(call[1])
+    if call[0] == BECOMES:
+        return bundle.becomes(call[1])
+    if call[0] == MOVING_LINES:
+        return bundle.moving(call[1])
+    if call[0] == CAME:
+        return bundle.came(call[1])
+    if call[0] == TURNED:
+        return bundle.turned(call[1])
+    if call[0] == FAMILY:
+        return bundle.family(call[1])
+    if call[0] == CORES:
+        return bundle.cores(call[1])
+    return bundle.pairs(call[2:])
 
 
 def answers(calls):

@@ -1,7 +1,8 @@
 """Changes of stalks, the lines they tell, and how likely these are."""
 
+from stalklines.hexagrams import LAST_HEXAGRAM, LINES_OF_A_HEXAGRAM, lines_of
+
 CHANGES_OF_A_LINE = 3
-LINES_OF_A_HEXAGRAM = 6
 
 GREAT = (8, 9)
 WHOLE = (7, 9)
@@ -84,6 +85,9 @@ class Fraction:
     def times(self, other):
         return Fraction(self.above * other.above, self.below * other.below)
 
+    def exceeds(self, other):
+        return self.above * other.below > other.above * self.below
+
     def told(self):
         return [self.above, self.below]
 
@@ -131,3 +135,39 @@ def line_odds(stalks):
         line = line_of_greats(state[1])
         odds[line] = odds[line].plus(chance)
     return odds
+
+
+def chance_of(odds, hexagram, moving):
+    """How likely it is that a hexagram is cast and just a set of its lines moves."""
+    return product_of([odds[line_at(hexagram, moving, place)] for place in range(LINES_OF_A_HEXAGRAM)])
+
+
+def chance_of_becoming(odds, hexagram):
+    """How likely it is that what is cast becomes a hexagram."""
+    # A line comes to its kind by being so at rest, or by moving from the other kind.
+    whole = odds[7].plus(odds[6])
+    broken = odds[8].plus(odds[9])
+    return product_of([whole if line == 1 else broken for line in lines_of(hexagram)])
+
+
+def chance_of_moving(odds, count):
+    """How likely it is that just so many lines of a hexagram move."""
+    moves = odds[6].plus(odds[9])
+    rests = odds[7].plus(odds[8])
+    ways = 1
+    for chosen in range(count):
+        ways = ways * (LINES_OF_A_HEXAGRAM - chosen) // (chosen + 1)
+    return product_of([Fraction(ways, 1)] + [moves] * count + [rests] * (LINES_OF_A_HEXAGRAM - count))
+
+
+def likeliest_origin(odds, hexagram):
+    """The hexagram that was most likely cast if what it became is the one told."""
+    likeliest = 0
+    greatest = Fraction(0, 1)
+    # Rising, and only a greater chance is taken: so of several as likely the least number stays.
+    for origin in range(LAST_HEXAGRAM + 1):
+        chance = chance_of(odds, origin, origin ^ hexagram)
+        if chance.exceeds(greatest):
+            likeliest = origin
+            greatest = chance
+    return likeliest

@@ -4,22 +4,12 @@ from math import gcd
 
 from stalklines.bundle import answers
 from tests import reference
+from tests.asking import asked
 from tests.reference import BECOMES, BEGINS, CHANCE, GREATEST, ODDS, STALK_NUMBERS, split, told
 
 
 def odds(stalks):
     return split(answers([BEGINS, stalks, ODDS]))[1]
-
-
-def asked(stalks, calls):
-    """The answers to any number of calls, handed in by no more than forty at a time."""
-    given = []
-    for start in range(0, len(calls), 39):
-        row = [BEGINS, stalks]
-        for call in calls[start:start + 39]:
-            row.extend(call)
-        given.extend(split(answers(row))[1:])
-    return given
 
 
 class Odds(unittest.TestCase):
@@ -91,7 +81,7 @@ class Becomes(unittest.TestCase):
             line_odds = reference.odds(stalks)
             total = Fraction(0)
             for h, answer in enumerate(asked(stalks, [(BECOMES, h) for h in range(64)])):
-                awaited = sum(reference.chance(line_odds, h ^ moving, moving) for moving in range(64))
+                awaited = reference.becomes(line_odds, h)
                 self.assertEqual(answer, [0] + told(awaited), (stalks, h))
                 total += awaited
             self.assertEqual(total, 1)

@@ -1,15 +1,23 @@
 import contextlib
+import inspect
 import io
+import random
 import sys
 import unittest
+from unittest import mock
 
 from stalklines.bundle import answers
-from tests.reference import BECOMES, BEGINS, CAST, CHANCE, LINE, ODDS, split
+from tests import reference
+from tests.reference import (
+    BECOMES, BEGINS, CAME, CAST, CHANCE, CORES, FAMILY, GREATEST, LINE, MOVING, ODDS, PAIRS, TURNED, split,
+)
 
 SEVERAL = (
     [LINE, 4, 4, 4, BEGINS, 22, ODDS, BEGINS, 21, ODDS, LINE, 1, 16, 1]
     + [CAST, 18] + [1] * 18 + [CAST, 18] + [1] * 7 + [0] + [1] * 10
     + [CHANCE, 64, 0, CHANCE, 0, 64, CHANCE, 0, 1, BECOMES, 64, BEGINS, 0, LINE, 20, 15, 11]
+    + [MOVING, 6, MOVING, 7, CAME, 0, CAME, 64, TURNED, 11, TURNED, 64, FAMILY, 21, FAMILY, 64]
+    + [PAIRS, 64] + list(range(64)) + [CORES, 5, CORES, 64, PAIRS, 64] + [GREATEST] * 64 + [BECOMES, 0]
 )
 SEVERAL_ANSWERED = [
     [6, 9, 8, 8],
@@ -26,11 +34,24 @@ SEVERAL_ANSWERED = [
     [-1],
     [-1],
     [9, 5, 4, 4],
+    [0, 84 ** 6, 275 ** 6],
+    [-1],
+    [0, 951 ** 6, 1925 ** 6],
+    [-1],
+    [52, 52, 25, 21],
+    [-1],
+    [2, 21, 42],
+    [-1],
+    [0, 1],
+    [4, 5, 10, 21, 42, 2],
+    [-1],
+    [0, 0],
+    [0, 1539 ** 6, 1925 ** 6],
 ]
 
 
-def refuse(self, *rest):
-    raise AssertionError("what was handed in is being changed")
+def refuse(*given, **named):
+    raise AssertionError("something is done that the document rules out")
 
 
 class Unchanging(list):
@@ -38,6 +59,35 @@ class Unchanging(list):
 
     append = clear = extend = insert = pop = remove = reverse = sort = refuse
     __setitem__ = __delitem__ = __iadd__ = __imul__ = refuse
+
+
+def forty_calls(chooser):
+    """Forty calls, each of the twelve among them, eight of came, some of them refused."""
+    pairs = [h for first in range(64) for h in (first, reference.partner(first)) if first <= reference.partner(first)]
+    chosen = [CAME] * 8 + [call for call in range(12) if call != CAME]
+    chosen += chooser.choices([call for call in range(12) if call != CAME], k=40 - len(chosen))
+    chooser.shuffle(chosen)
+    return [[call] + numbers_for(call, pairs, chooser) for call in chosen]
+
+
+def numbers_for(call, pairs, chooser):
+    """What stands behind a call's number."""
+    if call == BEGINS:
+        return [chooser.choice(reference.STALK_NUMBERS * 3 + [0, 17, 22, 98, 101, GREATEST])]
+    if call in (LINE, CAST):
+        count = 3 if call == LINE else 18
+        cuts = [chooser.randint(1, 11) for place in range(count)]
+        cuts[chooser.randrange(count)] = chooser.choice([0, 3, 4, 5, 16, 20, 48, GREATEST])
+        return cuts if call == LINE else [18] + cuts
+    if call == PAIRS:
+        order = list(pairs)
+        if chooser.random() < 0.8:
+            order[chooser.randrange(64)] = chooser.choice([chooser.randrange(64), 64, GREATEST])
+        return [64] + order
+    if call == ODDS:
+        return []
+    most = 7 if call == MOVING else 68
+    return [chooser.choice([chooser.randint(0, most)] * 9 + [GREATEST]) for number in range(1 + (call == CHANCE))]
 
 
 class Interface(unittest.TestCase):
@@ -69,8 +119,10 @@ class Interface(unittest.TestCase):
         self.assertEqual(answers([ODDS]), at_first)
 
     def test_only_begins_changes_the_bundle(self):
-        asking = ([LINE, 4, 4, 4], [ODDS], [CAST, 18] + [4] * 18, [CHANCE, 5, 6], [BECOMES, 7])
-        refused = ([LINE, 4, 4, 0], [CAST, 18] + [4] * 17 + [0], [CHANCE, 64, 6], [BECOMES, 64], [BEGINS, 98])
+        asking = [[LINE, 4, 4, 4], [ODDS], [CAST, 18] + [4] * 18, [CHANCE, 5, 6], [PAIRS, 64] + list(range(64))]
+        asking += [[call, 6] for call in (BECOMES, MOVING, CAME, TURNED, FAMILY, CORES)]
+        refused = [[LINE, 4, 4, 0], [CAST, 18] + [4] * 17 + [0], [CHANCE, 64, 6], [BEGINS, 98]]
+        refused += [[call, 64] for call in (BECOMES, MOVING, CAME, TURNED, FAMILY, CORES)]
         for call in asking + refused:
             self.assertEqual(split(answers(call + [ODDS]))[1], split(answers([ODDS]))[0], call)
 
@@ -78,11 +130,40 @@ class Interface(unittest.TestCase):
         calls = ([CAST, 18] + [4] * 18) * 40
         self.assertEqual(answers(calls), [3, 0, 63, 63] * 40)
 
-    def test_nothing_is_printed_or_imported(self):
+    def test_forty_orders(self):
+        calls = ([PAIRS, 64] + list(range(64))) * 40
+        self.assertEqual(answers(calls), [2, 0, 1] * 40)
+
+    def test_the_twelve_calls_mixed(self):
+        for seed in range(60):
+            mixed = forty_calls(random.Random(seed))
+            self.assertEqual({call[0] for call in mixed}, set(range(12)))
+            self.assertEqual(sum(call[0] == CAME for call in mixed), 8)
+            row = [number for call in mixed for number in call]
+            calls = Unchanging(row)
+            given = answers(calls)
+            self.assertEqual(split(given), reference.all_answered(mixed), seed)
+            self.assertEqual(list(calls), row)
+            self.assertEqual(answers(row), given)
+
+    def test_calls_are_not_nested_deep(self):
+        calls = SEVERAL + ([PAIRS, 64] + list(range(64))) * 10
+        awaited = answers(calls)
+        limit = sys.getrecursionlimit()
+        sys.setrecursionlimit(len(inspect.stack()) + 20)
+        try:
+            given = answers(calls)
+        finally:
+            sys.setrecursionlimit(limit)
+        self.assertEqual(given, awaited)
+
+    def test_nothing_is_printed_read_or_imported(self):
         modules = set(sys.modules)
         printed = io.StringIO()
         with contextlib.redirect_stdout(printed), contextlib.redirect_stderr(printed):
-            answers(SEVERAL)
+            with mock.patch("builtins.open", refuse), mock.patch("builtins.input", refuse):
+                with mock.patch("builtins.__import__", refuse):
+                    answers(SEVERAL)
         self.assertEqual(printed.getvalue(), "")
         self.assertEqual(set(sys.modules), modules)
 
